@@ -1,0 +1,1 @@
+"""Beadfit: strings of beads and the patterns that they fit."""

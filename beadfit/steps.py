@@ -4,7 +4,7 @@
 TAKEN = {".": 0, "*": 1, "+": 2, "/": 2}
 
 
-# None where the sign is no step at all.
+# Answers None where the sign is no step at all: nought would let it be done.
 def taken_by(sign):
     if "a" <= sign <= "z":
         return 0

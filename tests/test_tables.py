@@ -215,6 +215,9 @@ class HandedIn(TableCase):
         yield nothing(3), full(3)
         yield full(31), steps_of(1, 31)
         yield [[0]], [[]]
+        # Equal rows: an answer could hand one of them back as it is.
+        yield [[0, 1], [1]], [[0, 1], [1]]
+        yield empties(3), empties(3)
 
     def spoil(self, table):
         for row in table:

@@ -1,4 +1,6 @@
-"""The steps of a pattern's text: which can be done, and where the first fault is."""
+"""The steps of a pattern's text: which can be done, where the first fault is, and the refusal for it."""
+
+from beadfit.errors import NoPattern
 
 # How many patterns a step takes off the pile; the letters, which take none, are left out.
 TAKEN = {".": 0, "*": 1, "+": 2, "/": 2}
@@ -23,3 +25,10 @@ def fault(text):
     if height == 1:
         return None
     return len(text)
+
+
+# Asks no string, so that a text can be refused ahead of every string.
+def refuse_faulty(text):
+    place = fault(text)
+    if place is not None:
+        raise NoPattern(f"{text!r} writes no pattern: its first fault is at {place}")

@@ -1,4 +1,5 @@
 import copy
+import faulthandler
 import itertools
 import unittest
 
@@ -57,6 +58,13 @@ def steps_of(size, rows):
 
 
 class TableCase(unittest.TestCase):
+    # A run that does not end in good time is ended here, as a failure.
+    def setUp(self):
+        faulthandler.dump_traceback_later(20, exit=True)
+
+    def tearDown(self):
+        faulthandler.cancel_dump_traceback_later()
+
     def check(self, told, table):
         self.assertIs(type(told), list)
         for row in told:
